@@ -158,8 +158,8 @@ func policies(c api.VoyageChart, s api.VoyageState, each func(o []api.VoyageOrde
 func TestAllOrders(t *testing.T) {
 	r := source(8)
 	met := map[any]int{}
-	for range 1500 {
-		c := anyChart(r, anyOf(r, 2, 5), 4)
+	for range 4000 {
+		c := anyChart(r, anyOf(r, 2, 7), 5)
 		s := anyState(r, c)
 		most, soonest := -1, c.End+1
 		few := isAllowed(c, s) && policies(c, s, func(o []api.VoyageOrder) {
