@@ -349,7 +349,7 @@ func TestMayOfAny(t *testing.T) {
 	wantAll(t, met, any(true), any(false), any(0), any(1), any(2), any(3), any(api.OK), any(api.ErrArg))
 }
 
-// P9.4, P9.5: with all truths
+// P9.4, P9.5, P0.9: with all truths
 func TestKnownOfAny(t *testing.T) {
 	r := source(6)
 	met := map[any]int{}

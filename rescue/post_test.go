@@ -230,7 +230,7 @@ func eachPost(f api.RescueFleet, do func(post []int)) {
 	lists(slices.Repeat([]api.Span{sp(-1, f.Sea.Places-1)}, len(f.Boats)), do)
 }
 
-// P9.3: of all posts, no safe one has fewer men, or as many and comes before
+// P9.3, P0.9: of all posts, no safe one has fewer men, or as many and comes before
 func TestPostOfAny(t *testing.T) {
 	r := source(3)
 	met := map[any]int{}
